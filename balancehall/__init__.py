@@ -1,0 +1,1 @@
+"""Balancehall: changes of matter, balanced exactly, in whole numbers alone."""

@@ -1,0 +1,294 @@
+"""Tells where a source breaks the rules of the program's part of Python, as far as a walk over it can see."""
+
+import ast
+import builtins
+import re
+
+PACKAGE = "balancehall"
+
+ALLOWED_BUILTINS = set(
+    """len range enumerate zip min max sum abs sorted reversed int str bool list tuple dict set frozenset isinstance
+    ord repr any all divmod Exception ValueError TypeError KeyError IndexError LookupError ZeroDivisionError
+    ArithmeticError OverflowError RuntimeError NotImplementedError AttributeError StopIteration""".split()
+)
+ALLOWED_METHODS = set(
+    """append clear copy count endswith extend find get index insert isalnum isalpha isdigit islower isspace isupper
+    items join keys ljust lower lstrip partition pop remove replace reverse rfind rjust rpartition rsplit rstrip
+    setdefault split splitlines startswith strip update upper values zfill bit_length""".split()
+)
+DUNDER_METHODS = {"__init__", "__eq__", "__repr__", "__str__", "__len__"}
+ALLOWED_NODES = tuple(
+    getattr(ast, name)
+    for name in """Module Expr Assign AugAssign If While For Return Break Continue Pass Raise Try ExceptHandler
+    FunctionDef ClassDef ImportFrom Import alias arguments arg Lambda ListComp comprehension Name Attribute Subscript
+    Slice Call keyword Constant List Tuple Dict Set JoinedStr FormattedValue BinOp UnaryOp BoolOp Compare IfExp
+    expr_context operator unaryop boolop cmpop""".split()
+)
+BANNED_NODES = (ast.Div, ast.MatMult)
+BANNED_WORDS = (
+    """type typing typing_extensions enum Enum IntEnum StrEnum Flag IntFlag Generic Protocol ABC ABCMeta namedtuple
+    NamedTuple TypedDict TYPE_CHECKING abstractmethod"""
+).split()
+BANNED_PIECES = ["dataclass", "overload", "contextmanager"]
+BANNED_NAMES = set(
+    """register mro elements open input version_info with_traceback add_note attrgetter breakpoint builtins compile
+    copyright credits delattr dir eval exec exit gc getattr globals hasattr help id importlib license locals
+    methodcaller os quit setattr super type vars sys""".split()
+)
+BANNED_ATTRIBUTES = set("register mro elements open input version_info with_traceback add_note format format_map".split())
+ALLOWED_VALUES = set("count index title find get join lower upper split strip copy add".split())
+PYTHON_OWN = set(
+    name for kind in (str, int, list, dict, set, bytes, tuple, ValueError) for name in dir(kind) if name[0] != "_"
+)
+PLAIN_NAME = re.compile(r"[A-Za-z][A-Za-z0-9_]*\Z")
+
+
+def faults(source):
+    """A list of tuples (rule, row), sorted."""
+    tree = ast.parse(source)
+    found = text_faults(source) + top_faults(tree)
+    for node in ast.walk(tree):
+        found += node_faults(node)
+    return sorted(found)
+
+
+def text_faults(source):
+    found = []
+    rows = source.split("\n")
+    if len(rows) - 1 > 400:
+        found.append(("L10", 401))
+    for place, row in enumerate(rows, start=1):
+        if len(row) > 120:
+            found.append(("L10", place))
+        if any(not " " <= sign <= "~" for sign in row):
+            found.append(("L14", place))
+        words = re.findall(r"\w+", row)
+        if set(words) & set(BANNED_WORDS) or any(piece in row for piece in BANNED_PIECES):
+            found.append(("L17", place))
+    return found
+
+
+def top_faults(tree):
+    found = []
+    bound = set()
+    for place, node in enumerate(tree.body):
+        docstring = place == 0 and isinstance(node, ast.Expr) and isinstance(node.value, ast.Constant)
+        if not docstring and not isinstance(node, (ast.ImportFrom, ast.FunctionDef, ast.ClassDef, ast.Assign)):
+            found.append(("L3", node.lineno))
+        for name in top_names(node):
+            if name in bound:
+                found.append(("L15", node.lineno))
+            bound.add(name)
+    return found
+
+
+def top_names(node):
+    if isinstance(node, (ast.FunctionDef, ast.ClassDef)):
+        return [node.name]
+    if isinstance(node, ast.ImportFrom):
+        return [each.asname or each.name for each in node.names]
+    if isinstance(node, ast.Assign):
+        return [each.id for each in node.targets if isinstance(each, ast.Name)]
+    return []
+
+
+def node_faults(node):
+    found = []
+    if isinstance(node, BANNED_NODES) or not isinstance(node, ALLOWED_NODES):
+        found.append("L6")
+    for asked, check in CHECKS:
+        if isinstance(node, asked):
+            found += check(node)
+    return [(rule, getattr(node, "lineno", 0)) for rule in found]
+
+
+def import_faults(node):
+    found = []
+    if isinstance(node, ast.Import) or node.level or not (node.module or "").startswith(PACKAGE + "."):
+        found.append("L2")
+    if any(each.name == "*" for each in node.names):
+        found.append("L2")
+    return found
+
+
+def def_faults(node):
+    found = []
+    if node.end_lineno - node.lineno + 1 > 40:
+        found.append("L10")
+    if node.decorator_list:
+        found.append("L4")
+    if node.returns is not None:
+        found.append("L21")
+    if node.name.startswith("_") and node.name not in DUNDER_METHODS:
+        found.append("L12")
+    return found
+
+
+def arguments_faults(node):
+    found = []
+    if node.vararg or node.kwarg or node.kwonlyargs or node.posonlyargs:
+        found.append("L4")
+    for each in node.args:
+        if each.annotation is not None:
+            found.append("L21")
+        found += bound_name_faults(each.arg)
+    return found
+
+
+def bound_name_faults(name):
+    found = []
+    if not PLAIN_NAME.match(name):
+        found.append("L12")
+    if hasattr(builtins, name):
+        found.append("L15")
+    return found
+
+
+def class_faults(node):
+    found = []
+    if node.decorator_list or node.keywords or len(node.bases) > 1:
+        found.append("L5")
+    if not all(isinstance(each, (ast.FunctionDef, ast.Pass)) for each in node.body):
+        found.append("L5")
+    names = [each.name for each in node.body if isinstance(each, ast.FunctionDef)]
+    if len(names) != len(set(names)):
+        found.append("L18")
+    return found
+
+
+def name_faults(node):
+    if isinstance(node.ctx, ast.Store):
+        return bound_name_faults(node.id)
+    if node.id in BANNED_NAMES:
+        return ["L17"]
+    if hasattr(builtins, node.id) and node.id not in ALLOWED_BUILTINS:
+        return ["L8"]
+    return []
+
+
+def attribute_faults(node):
+    found = []
+    if node.attr in BANNED_ATTRIBUTES:
+        found.append("L17")
+    if node.attr.startswith("_") and node.attr not in DUNDER_METHODS:
+        found.append("L12")
+    if isinstance(node.ctx, ast.Store) and node.attr in PYTHON_OWN - ALLOWED_VALUES:
+        found.append("L26")
+    return found
+
+
+def expression_row_faults(node):
+    if isinstance(node.value, ast.Call):
+        return []
+    # The one docstring that the rules name is the file's own.
+    if isinstance(node.value, ast.Constant) and node.col_offset == 0 and node.lineno == 1:
+        return []
+    return ["L6"]
+
+
+def assign_faults(node):
+    if len(node.targets) > 1 or isinstance(node.targets[0], (ast.Tuple, ast.List)):
+        return ["L6"]
+    return []
+
+
+def loop_faults(node):
+    return ["L6"] if node.orelse else []
+
+
+def try_faults(node):
+    found = ["L6"] if node.finalbody else []
+    for each in node.handlers:
+        names = [part.id for part in ast.walk(each.type) if isinstance(part, ast.Name)] if each.type else [None]
+        if set(names) & {None, "Exception", "TypeError", "BaseException"}:
+            found.append("L19")
+    return found
+
+
+def comprehension_faults(node):
+    if len(node.generators) > 1 or any(len(each.ifs) > 1 or each.is_async for each in node.generators):
+        return ["L7"]
+    return []
+
+
+def constant_faults(node):
+    if isinstance(node.value, (float, complex, bytes)) or node.value is ...:
+        return ["L7"]
+    if isinstance(node.value, str) and "%" in node.value:
+        return ["L27"]
+    return []
+
+
+def formatted_faults(node):
+    if not isinstance(node.value, ast.Name) or node.format_spec or node.conversion not in (-1, ord("r")):
+        return ["L7"]
+    return []
+
+
+def compare_faults(node):
+    sides = [node.left] + node.comparators
+    for place, sign in enumerate(node.ops):
+        if isinstance(sign, (ast.Is, ast.IsNot)):
+            pair = sides[place:place + 2]
+            if not any(isinstance(each, ast.Constant) and each.value in (None, True, False) for each in pair):
+                return ["L20"]
+    return []
+
+
+def power_faults(node):
+    if not isinstance(node.op, ast.Pow):
+        return []
+    written = isinstance(node.right, ast.Constant) and isinstance(node.right.value, int)
+    return [] if written and 0 <= node.right.value <= 64 else ["L27"]
+
+
+CHECKS = (
+    ((ast.Import, ast.ImportFrom), import_faults),
+    (ast.FunctionDef, def_faults),
+    (ast.arguments, arguments_faults),
+    (ast.ClassDef, class_faults),
+    (ast.Name, name_faults),
+    (ast.Attribute, attribute_faults),
+    (ast.Expr, expression_row_faults),
+    (ast.Assign, assign_faults),
+    ((ast.For, ast.While), loop_faults),
+    (ast.Try, try_faults),
+    (ast.ListComp, comprehension_faults),
+    (ast.Constant, constant_faults),
+    (ast.FormattedValue, formatted_faults),
+    (ast.Compare, compare_faults),
+    (ast.BinOp, power_faults),
+)
+
+
+def package_faults(sources):
+    """Of a dict from module names to sources: what only the whole package shows, as tuples (rule, name)."""
+    trees = {name: ast.parse(source) for name, source in sources.items()}
+    methods, values, called = members(trees.values())
+    found = [("L18", name) for name in methods & values]
+    found += [("L25", name) for name in called - methods - ALLOWED_METHODS - DUNDER_METHODS]
+    found += [("L16", name) for name in trees if name in drawn_from(name, trees)]
+    return sorted(found)
+
+
+def members(trees):
+    methods, values, called = set(), set(), set()
+    for tree in trees:
+        for node in ast.walk(tree):
+            if isinstance(node, ast.ClassDef):
+                methods.update(each.name for each in node.body if isinstance(each, ast.FunctionDef))
+            elif isinstance(node, ast.Attribute) and isinstance(node.ctx, ast.Store):
+                values.add(node.attr)
+            elif isinstance(node, ast.Call) and isinstance(node.func, ast.Attribute):
+                called.add(node.func.attr)
+    return methods, values, called
+
+
+def drawn_from(name, trees):
+    reached, ahead = set(), [name]
+    while ahead:
+        for node in trees[ahead.pop()].body:
+            if isinstance(node, ast.ImportFrom) and node.module in trees and node.module not in reached:
+                reached.add(node.module)
+                ahead.append(node.module)
+    return reached
