@@ -35,11 +35,19 @@ BANNED_NAMES = set(
     copyright credits delattr dir eval exec exit gc getattr globals hasattr help id importlib license locals
     methodcaller os quit setattr super type vars sys""".split()
 )
-BANNED_ATTRIBUTES = set("register mro elements open input version_info with_traceback add_note format format_map".split())
+BANNED_ATTRIBUTES = set(
+    "register mro elements open input version_info with_traceback add_note format format_map".split()
+)
 ALLOWED_VALUES = set("count index title find get join lower upper split strip copy add".split())
 PYTHON_OWN = set(
     name for kind in (str, int, list, dict, set, bytes, tuple, ValueError) for name in dir(kind) if name[0] != "_"
 )
+WALKED = set("zip enumerate reversed range items keys values".split())
+WALKERS = set("list tuple dict sorted sum any all enumerate zip min max join".split())
+KEYWORDS = {
+    "sorted": {"key", "reverse"}, "min": {"key", "default"}, "max": {"key", "default"}, "sum": {"start"},
+    "enumerate": {"start"}, "zip": {"strict"},
+}
 PLAIN_NAME = re.compile(r"[A-Za-z][A-Za-z0-9_]*\Z")
 
 
@@ -49,6 +57,8 @@ def faults(source):
     found = text_faults(source) + top_faults(tree)
     for node in ast.walk(tree):
         found += node_faults(node)
+        for inner in ast.iter_child_nodes(node):
+            found += place_faults(inner, node)
     return sorted(found)
 
 
@@ -100,6 +110,50 @@ def node_faults(node):
         if isinstance(node, asked):
             found += check(node)
     return [(rule, getattr(node, "lineno", 0)) for rule in found]
+
+
+def called_name(node):
+    if not isinstance(node, ast.Call):
+        return None
+    return node.func.id if isinstance(node.func, ast.Name) else getattr(node.func, "attr", None)
+
+
+def place_faults(node, around):
+    """What hangs on where a node stands: straight within which other one."""
+    found = []
+    if called_name(node) in WALKED and not walked_at_once(node, around):
+        found.append(("L23", node.lineno))
+    if (called_name(node) in ("set", "frozenset") or isinstance(node, ast.Set)) and not set_used_at_once(around):
+        found.append(("L24", node.lineno))
+    if isinstance(node, ast.Name) and own_function_kept(node, around):
+        found.append(("L22", node.lineno))
+    return found
+
+
+def walked_at_once(node, around):
+    if isinstance(around, (ast.For, ast.comprehension)):
+        return around.iter is node
+    return called_name(around) in WALKERS and around.args[:1] == [node]
+
+
+def set_used_at_once(around):
+    if isinstance(around, ast.BinOp):
+        return isinstance(around.op, (ast.Sub, ast.BitAnd, ast.BitOr, ast.BitXor))
+    return isinstance(around, ast.Compare) or called_name(around) in ("sorted", "len")
+
+
+def own_function_kept(node, around):
+    own = getattr(builtins, node.id, None)
+    if own is None or isinstance(own, type) or not isinstance(node.ctx, ast.Load):
+        return False
+    return not isinstance(around, ast.keyword) and not (isinstance(around, ast.Call) and around.func is node)
+
+
+def call_faults(node):
+    name = called_name(node)
+    told = set(each.arg for each in node.keywords)
+    own = isinstance(node.func, ast.Name) and hasattr(builtins, name) or name in ALLOWED_METHODS
+    return ["L22"] if own and told - KEYWORDS.get(name, set()) else []
 
 
 def import_faults(node):
@@ -258,6 +312,7 @@ CHECKS = (
     (ast.FormattedValue, formatted_faults),
     (ast.Compare, compare_faults),
     (ast.BinOp, power_faults),
+    (ast.Call, call_faults),
 )
 
 

@@ -25,7 +25,12 @@ class Thing(HallError):
             if part is None or not 1 <= part <= 9:
                 continue
             total[part] = total.get(part, 0) + part ** 2
+        if set(total) == set(self.parts) or len(set(total)) > 1 or 1 in set(total):
+            return [part for place, part in enumerate(reversed(self.parts), start=1) if place > 1]
         return sorted([part for part in total if part > 1], key=lambda part: -part)
+
+    def pairs(self):
+        return list(zip(self.parts, sorted(self.parts, key=len, reverse=True)))
 '''
 
 BROKEN = (
@@ -64,6 +69,16 @@ BROKEN = (
     ("L19", "def f():\n    try:\n        g()\n    except Exception:\n        pass"),
     ("L20", "def f(a, b):\n    return a is b"),
     ("L21", "def f(a: int):\n    return a"),
+    ("L22", "def f(xs):\n    return list(iterable=xs)"),
+    ("L22", "def f(x):\n    return str(object=x)"),
+    ("L22", "def f(xs):\n    return xs.split(sep=' ')"),
+    ("L22", "def f(xs):\n    g = len\n    return g(xs)"),
+    ("L23", "def f(xs, ys):\n    pairs = zip(xs, ys)\n    return list(pairs)"),
+    ("L23", "def f(d):\n    return d.items()"),
+    ("L23", "def f(xs, ys):\n    return zip(xs, range(3))"),
+    ("L24", "def f(xs):\n    a = set(xs)\n    return len(a)"),
+    ("L24", "def f(xs):\n    for x in set(xs):\n        g(x)"),
+    ("L24", "def f():\n    return {1, 2}"),
     ("L26", "def f(a):\n    a.items = 1"),
     ("L27", "def f(n):\n    return 2 ** n"),
     ("L27", "A = 'a % b'"),
