@@ -12,6 +12,11 @@ MOST_GROUPS_AROUND = 3
 ELECTRON = "e^-"
 
 
+def refuse_too_long(text):
+    if len(text) > LONGEST_TEXT:
+        raise TooLong(len(text))
+
+
 def charge_shown(charge):
     if charge == 0:
         return ""
@@ -51,6 +56,10 @@ class Reader:
             raise NoFormula(self.place)
         self.place += 1
 
+    def take_all(self, signs):
+        for sign in signs:
+            self.take(sign)
+
     def take_end(self):
         if self.place < len(self.text):
             raise NoFormula(self.place)
@@ -66,8 +75,7 @@ class Reader:
         return Formula(pieces, self.read_charge())
 
     def read_electron(self):
-        for sign in ELECTRON:
-            self.take(sign)
+        self.take_all(ELECTRON)
         return Formula([], -1)
 
     def read_parts(self, around):
@@ -98,12 +106,15 @@ class Reader:
         kind = self.text[begin:self.place]
         return Atom(kind, self.read_count())
 
-    # A lone 1 is refused only behind it: other figures might have followed.
     def read_count(self):
+        return self.read_number(LONGEST_COUNT)
+
+    # 1 where none is written. A lone 1 is refused only behind it: other figures might have followed.
+    def read_number(self, longest):
         if self.sign() == "0":
             raise NoFormula(self.place)
         begin = self.place
-        while is_figure(self.sign()) and self.place - begin < LONGEST_COUNT:
+        while is_figure(self.sign()) and self.place - begin < longest:
             self.place += 1
         written = self.text[begin:self.place]
         if written == "1":
@@ -123,8 +134,7 @@ class Reader:
 
 
 def read_formula(text):
-    if len(text) > LONGEST_TEXT:
-        raise TooLong(len(text))
+    refuse_too_long(text)
     reader = Reader(text)
     formula = reader.read_whole()
     reader.take_end()

@@ -3,6 +3,7 @@
 from balancehall.wholes import lowest, weigh
 
 
+# By their own weights all bound columns weigh alike, so sums of these weights let them weigh whatever is asked.
 class Kernel:
     def __init__(self, free, bound, numbers, weights):
         self.free = list(free)

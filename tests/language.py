@@ -54,7 +54,7 @@ PLAIN_NAME = re.compile(r"[A-Za-z][A-Za-z0-9_]*\Z")
 def faults(source):
     """A list of tuples (rule, row), sorted."""
     tree = ast.parse(source)
-    found = text_faults(source) + top_faults(tree)
+    found = text_faults(source) + top_faults(tree) + shadow_faults(tree)
     for node in ast.walk(tree):
         found += node_faults(node)
         for inner in ast.iter_child_nodes(node):
@@ -100,6 +100,22 @@ def top_names(node):
     if isinstance(node, ast.Assign):
         return [each.id for each in node.targets if isinstance(each, ast.Name)]
     return []
+
+
+def shadow_faults(tree):
+    """Parameters and locals that are called like a class or an import of their file."""
+    taken = set()
+    for node in tree.body:
+        if isinstance(node, (ast.ClassDef, ast.ImportFrom)):
+            taken.update(top_names(node))
+    found = []
+    for node in ast.walk(tree):
+        name = node.arg if isinstance(node, ast.arg) else None
+        if isinstance(node, ast.Name) and isinstance(node.ctx, ast.Store):
+            name = node.id
+        if name in taken:
+            found.append(("L15", node.lineno))
+    return found
 
 
 def node_faults(node):

@@ -1,6 +1,5 @@
 import inspect
 import random
-import re
 import string
 import unittest
 from collections import Counter
@@ -8,24 +7,9 @@ from collections import Counter
 from balancehall.errors import HallError, NoFormula, TooLong
 from balancehall.formulas import Formula, read_formula
 from balancehall.parts import Atom, Group, Piece
+from texts import Places, begins_formula, is_formula, outline
 
-SIGNS = [chr(code) for code in range(ord(" "), ord("~") + 1)]
 KINDS = ["C", "Co", "O", "Cob", "H", "He", "Oc", "Uue", "Z", "Azz"]
-COUNT = "(?:[1-9][0-9]{1,2}|[2-9])"
-
-
-def pattern():
-    """A formula's text as one pattern: a way of telling what is one that shares nothing with the program's."""
-    atom = f"[A-Z][a-z]{{0,2}}{COUNT}?"
-    part = atom
-    for each in range(4):
-        part = rf"(?:{atom}|\((?:{part})+\){COUNT}?)"
-    piece = f"(?:{part})+"
-    return re.compile(rf"{piece}(?:\.{COUNT}?{piece})*(?:\^{COUNT}?[+-])?|e\^-")
-
-
-FORMULA = pattern()
-ENDINGS = [head + ")" * deep for head in ("", "0", "A", "0A", "+", "0+", "^-", "-") for deep in range(5)]
 
 GOOD = [
     "H2O", "Ca(OH)2", "CuSO4.5H2O", "SO4^2-", "(A(B2)3)", "e^-", "H", "Co", "CO", "Cob", "CoB", "COb", "COB", "H^+",
@@ -61,39 +45,6 @@ REFUSED = [
     # Signs that stand in no formula.
     (" ", 0), ("A ", 1), (" A", 0), ("[A]", 0), ("A,B", 1), ("A*B", 1), ("A -> B", 1), ("A + B", 1), ("~", 0),
 ]
-
-
-def is_formula(text):
-    return FORMULA.fullmatch(text) is not None
-
-
-def begins(text):
-    return any(is_formula(text + ending) for ending in ENDINGS)
-
-
-def right_place(text):
-    """None where the text is a formula."""
-    for place in range(len(text)):
-        if not begins(text[:place + 1]):
-            return place
-    return None if is_formula(text) else len(text)
-
-
-def told_place(text):
-    try:
-        read_formula(text)
-    except NoFormula as refusal:
-        return refusal.place
-    return None
-
-
-def outline(tree):
-    name = type(tree).__name__
-    if isinstance(tree, Atom):
-        return (name, tree.kind, tree.count)
-    if isinstance(tree, Formula):
-        return (name, [outline(piece) for piece in tree.pieces], tree.charge)
-    return (name, [outline(part) for part in tree.parts], tree.count)
 
 
 def flat(tree):
@@ -286,12 +237,6 @@ class ReadTest(unittest.TestCase):
                 with self.subTest(ahead + behind):
                     self.assertEqual(read_formula(ahead + behind).charge, charge)
 
-    def test_each_read_text_is_shown_again(self):
-        for text in GOOD:
-            with self.subTest(text):
-                self.assertTrue(is_formula(text))
-                self.assertEqual(read_formula(text).shown(), text)
-
     def test_trees_made_by_hand_are_read_again_from_their_texts(self):
         for formula in some_formulas(400, [1, 1, 2, 3, 10, 999]):
             text = formula.shown()
@@ -331,58 +276,17 @@ class ReadTest(unittest.TestCase):
         self.assertEqual(read_formula("Ca(OH)2.H2^+").shown(), "Ca(OH)2.H2^+")
 
 
-class RefusedTest(unittest.TestCase):
-    def test_places(self):
-        for text, place in REFUSED:
-            with self.subTest(text):
-                self.assertEqual(right_place(text), place)
-                self.assertEqual(told_place(text), place)
-
-    def test_cut_behind_each_sign(self):
-        for text in GOOD:
-            for end in range(len(text)):
-                with self.subTest(text[:end]):
-                    self.assertTrue(begins(text[:end]))
-                    self.assertEqual(told_place(text[:end]), None if is_formula(text[:end]) else end)
-
-    def test_a_strange_sign_at_each_place(self):
-        strange = [sign for sign in SIGNS if not sign.isalnum() and sign not in "().^+-"]
-        self.assertEqual(len(strange), 95 - 62 - 6)
-        for text in GOOD:
-            for place in range(len(text) + 1):
-                for sign in strange:
-                    self.assertEqual(told_place(text[:place] + sign + text[place:]), place)
-
-    def test_any_sign_at_each_place(self):
-        for text in GOOD[:16]:
-            for place in range(len(text) + 1):
-                for sign in "AaeZz0123().^+- ":
-                    changed = text[:place] + sign + text[place:]
-                    self.assertEqual(told_place(changed), right_place(changed), changed)
-
-    def test_any_sign_left_out(self):
-        for text in GOOD:
-            for place in range(len(text)):
-                changed = text[:place] + text[place + 1:]
-                self.assertEqual(told_place(changed), right_place(changed), changed)
-
-    def test_all_short_texts(self):
-        few = "Aae012().^+-"
-        beginnings = [""]
-        for length in range(5):
-            longer = []
-            for text in beginnings:
-                for sign in SIGNS if length < 3 else few:
-                    if not begins(text + sign):
-                        self.assertEqual(told_place(text + sign), length, text + sign)
-                        self.assertEqual(told_place(text + sign + "A"), length, text + sign)
-                        continue
-                    place = None if is_formula(text + sign) else length + 1
-                    self.assertEqual(told_place(text + sign), place, text + sign)
-                    if sign in few:
-                        longer.append(text + sign)
-            beginnings = longer
-        self.assertGreater(len(beginnings), 1000)
+class RefusedTest(Places, unittest.TestCase):
+    read = staticmethod(read_formula)
+    refusal = NoFormula
+    begins = staticmethod(begins_formula)
+    is_whole = staticmethod(is_formula)
+    good = GOOD
+    refused = REFUSED
+    signs = "().^+-"
+    few = "Aae012().^+-"
+    longest = 5
+    tail = "A"
 
     def test_texts_of_400_and_401_signs(self):
         for text in ("H" * 400, "Co" * 200, "H2" * 200, "(" + "H" * 398 + ")", "H" * 398 + "^-", "A." * 199 + "A2"):
@@ -406,9 +310,9 @@ class RefusedTest(unittest.TestCase):
     def test_how_long_a_beginning_becomes_is_not_looked_at(self):
         for text in ("H" * 399 + "(", "H" * 399 + "1", "H" * 399 + "^", "H" * 399 + ".", "((((" + "H" * 396):
             self.assertEqual(len(text), 400)
-            self.assertEqual(told_place(text), 400)
-        self.assertEqual(told_place("(" * 400), 4)
-        self.assertEqual(told_place("H" * 399 + "?"), 399)
+            self.assertEqual(self.told_place(text), 400)
+        self.assertEqual(self.told_place("(" * 400), 4)
+        self.assertEqual(self.told_place("H" * 399 + "?"), 399)
 
     def test_a_refusal_is_of_its_own_class(self):
         for text, wanted in (("h", NoFormula), ("H" * 401, TooLong)):
@@ -416,10 +320,6 @@ class RefusedTest(unittest.TestCase):
                 read_formula(text)
             self.assertIs(type(taken.exception), wanted)
             self.assertIsInstance(taken.exception, ValueError)
-
-    def test_asked_again_the_answer_is_the_same(self):
-        for text, place in REFUSED[:20]:
-            self.assertEqual([told_place(text), told_place(text)], [place, place])
 
 
 if __name__ == "__main__":

@@ -30,6 +30,9 @@ class KernelTest(unittest.TestCase):
                     self.assertGreater(weight(weights, columns[other]), 0)
                 else:
                     self.assertEqual(weight(weights, columns[other]), 0)
+        # Not in point 11, but `settled` leans on it.
+        alike = {weight(weights, columns[place]) for place, weights in zip(found.bound, found.weights)}
+        self.assertLessEqual(len(alike), 1)
         return found
 
     def look_at_numbers(self, columns, found, place, numbers):

@@ -63,6 +63,8 @@ BROKEN = (
     ("L14", "# \t"),
     ("L15", "A = 1\nA = 2"),
     ("L15", "def f(hash):\n    return hash"),
+    ("L15", "from balancehall.wholes import lowest\n\n\ndef f(lowest):\n    return 1"),
+    ("L15", "class A:\n    pass\n\n\ndef f(xs):\n    return [A for A in xs]"),
     ("L17", "# a type of thing"),
     ("L17", "def f(x):\n    return open"),
     ("L18", "class A:\n    def f(self):\n        pass\n    def f(self):\n        pass"),
