@@ -37,6 +37,15 @@ def side_amounts(terms):
     return total
 
 
+# By the formulas' texts, in the order in which these come first.
+def side_counts(terms):
+    total = {}
+    for count, formula in terms:
+        text = formula.shown()
+        total[text] = total.get(text, 0) + count
+    return total
+
+
 def side_columns(terms, kinds, times):
     amounts = [formula_amounts(formula) for count, formula in terms]
     return [[times * each.get(kind, 0) for kind in kinds] for each in amounts]

@@ -44,6 +44,8 @@ PYTHON_OWN = set(
 )
 WALKED = set("zip enumerate reversed range items keys values".split())
 WALKERS = set("list tuple dict sorted sum any all enumerate zip min max join".split())
+READERS = set("get items keys values index count copy".split())
+COPIERS = set("list tuple dict sorted len sum min max any all enumerate reversed zip".split())
 KEYWORDS = {
     "sorted": {"key", "reverse"}, "min": {"key", "default"}, "max": {"key", "default"}, "sum": {"start"},
     "enumerate": {"start"}, "zip": {"strict"},
@@ -54,7 +56,7 @@ PLAIN_NAME = re.compile(r"[A-Za-z][A-Za-z0-9_]*\Z")
 def faults(source):
     """A list of tuples (rule, row), sorted."""
     tree = ast.parse(source)
-    found = text_faults(source) + top_faults(tree) + shadow_faults(tree)
+    found = text_faults(source) + top_faults(tree) + shadow_faults(tree) + kept_faults(tree)
     for node in ast.walk(tree):
         found += node_faults(node)
         for inner in ast.iter_child_nodes(node):
@@ -85,11 +87,49 @@ def top_faults(tree):
         docstring = place == 0 and isinstance(node, ast.Expr) and isinstance(node.value, ast.Constant)
         if not docstring and not isinstance(node, (ast.ImportFrom, ast.FunctionDef, ast.ClassDef, ast.Assign)):
             found.append(("L3", node.lineno))
+        if isinstance(node, ast.Assign) and not plain_value(node.value, bound):
+            found.append(("L3", node.lineno))
         for name in top_names(node):
             if name in bound:
                 found.append(("L15", node.lineno))
             bound.add(name)
     return found
+
+
+def plain_value(node, bound):
+    """A number, a text or their like, a name that is bound above, or a list, tuple or dict of these."""
+    if isinstance(node, ast.Dict):
+        return all(each is not None and plain_value(each, bound) for each in node.keys + node.values)
+    if isinstance(node, (ast.List, ast.Tuple)):
+        return all(plain_value(each, bound) for each in node.elts)
+    return isinstance(node, ast.Constant) or (isinstance(node, ast.Name) and node.id in bound)
+
+
+def kept_faults(tree):
+    """Lists and dicts of the file's top that hold others, or are used otherwise than read on the spot."""
+    kept = {}
+    found = []
+    for node in tree.body:
+        if isinstance(node, ast.Assign) and isinstance(node.value, (ast.List, ast.Dict)):
+            kept.update((name, node) for name in top_names(node))
+            inner = [each for each in ast.walk(node.value) if isinstance(each, (ast.List, ast.Dict))]
+            found += [("L15", node.lineno)] * (len(inner) > 1)
+    for around in ast.walk(tree):
+        for node in ast.iter_child_nodes(around):
+            if isinstance(node, ast.Name) and node.id in kept and kept[node.id] is not around:
+                if not only_read(node, around):
+                    found.append(("L15", node.lineno))
+    return found
+
+
+def only_read(node, around):
+    if isinstance(around, ast.Subscript):
+        return around.value is node and isinstance(around.ctx, ast.Load)
+    if isinstance(around, (ast.For, ast.comprehension)):
+        return around.iter is node
+    if isinstance(around, ast.Attribute):
+        return around.attr in READERS
+    return isinstance(around, ast.Compare) or called_name(around) in COPIERS
 
 
 def top_names(node):
@@ -191,6 +231,8 @@ def def_faults(node):
         found.append("L21")
     if node.name.startswith("_") and node.name not in DUNDER_METHODS:
         found.append("L12")
+    if node.name == "__init__" and any(isinstance(each, ast.Return) and each.value for each in ast.walk(node)):
+        found.append("L28")
     return found
 
 
@@ -339,7 +381,17 @@ def package_faults(sources):
     found = [("L18", name) for name in methods & values]
     found += [("L25", name) for name in called - methods - ALLOWED_METHODS - DUNDER_METHODS]
     found += [("L16", name) for name in trees if name in drawn_from(name, trees)]
+    found += [("L16", name) for name in trees if not drawn_where_defined(trees[name], trees)]
     return sorted(found)
+
+
+def drawn_where_defined(tree, trees):
+    for node in tree.body:
+        if isinstance(node, ast.ImportFrom):
+            others = [each for each in trees[node.module].body if not isinstance(each, ast.ImportFrom)]
+            if not {each.name for each in node.names} <= {name for each in others for name in top_names(each)}:
+                return False
+    return True
 
 
 def members(trees):

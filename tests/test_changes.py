@@ -6,7 +6,8 @@ from balancehall.changes import Change, read_change
 from balancehall.errors import HallError, NoChange, TooLong, TooMany
 from balancehall.formulas import Formula, read_formula
 from balancehall.parts import Atom, Group, Piece
-from texts import Places, begins_change, is_change, outline
+from slowly import columns_of, kinds_of, lost_of
+from texts import Places, begins_change, is_change, made, outline, pairs
 
 TWELVE = "999999999999"
 
@@ -46,25 +47,6 @@ REFUSED = [
     ("A^-> B", 3), ("H1000 -> B", 4), ("(((((A))))) -> B", 4), ("Abcd -> B", 3), ("A -> Abcd", 8), ("A^1+ -> B", 3),
     ("2 h -> B", 2),
 ]
-
-
-def made(lefts, rights):
-    """A change by hand, of pairs of a count and a formula's text."""
-    return Change([(count, read_formula(text)) for count, text in lefts],
-                  [(count, read_formula(text)) for count, text in rights])
-
-
-def pairs(terms):
-    return [(count, formula.shown()) for count, formula in terms]
-
-
-def slow_amount(text, kind):
-    formula = read_formula(text)
-    return formula.charge if kind == "+" else formula.counts().get(kind, 0)
-
-
-def slow_kinds(texts):
-    return sorted({kind for text in texts for kind in read_formula(text).counts()}) + ["+"]
 
 
 class ByHandTest(unittest.TestCase):
@@ -215,15 +197,9 @@ class ByHandTest(unittest.TestCase):
     def look_at(self, lefts, rights):
         """Holds all that is told of a change against point 18 and point 20."""
         change = made(lefts, rights)
-        kinds = slow_kinds([text for count, text in lefts + rights])
-        self.assertEqual(change.kinds(), kinds)
-        columns = [[slow_amount(text, kind) for kind in kinds] for count, text in lefts]
-        columns += [[-slow_amount(text, kind) for kind in kinds] for count, text in rights]
-        self.assertEqual(change.columns(), columns)
-        sides = [[sum(count * slow_amount(text, kind) for count, text in side) for kind in kinds]
-                 for side in (lefts, rights)]
-        lost = [told for told in zip(kinds, sides[0], sides[1]) if told[1] != told[2]]
-        self.assertEqual(change.lost(), lost)
+        self.assertEqual(change.kinds(), kinds_of(lefts + rights))
+        self.assertEqual(change.columns(), columns_of(lefts, rights))
+        self.assertEqual(change.lost(), lost_of(lefts, rights))
         self.assertEqual(pairs(read_change(change.shown()).lefts), lefts)
         self.assertEqual(pairs(read_change(change.shown()).rights), rights)
 

@@ -13,6 +13,19 @@ from balancehall.errors import HallError
 NAMES = ("a", "b")
 
 
+def one_more(number):
+    return number + 1
+
+
+WAYS = {"a": one_more, "b": (one_more, 2)}
+
+
+def answer(name):
+    if name not in WAYS:
+        return list(WAYS)
+    return WAYS[name](len(WAYS) + WAYS.get("c", 3))
+
+
 class Thing(HallError):
     def __init__(self, parts, count=1):
         HallError.__init__(self, f"{count} there")
@@ -39,6 +52,9 @@ BROKEN = (
     ("L2", "from balancehall.parts import *"),
     ("L2", "from .parts import Atom"),
     ("L3", "if True:\n    pass"),
+    ("L3", "A = list((1, 2))"),
+    ("L3", "A = {'a': f}\n\n\ndef f():\n    return 1"),
+    ("L3", "A = [x for x in (1, 2)]"),
     ("L4", "def f(*rest):\n    return 1"),
     ("L4", "def f(one, **rest):\n    return 1"),
     ("L5", "class A(B, C):\n    pass"),
@@ -65,6 +81,12 @@ BROKEN = (
     ("L15", "def f(hash):\n    return hash"),
     ("L15", "from balancehall.wholes import lowest\n\n\ndef f(lowest):\n    return 1"),
     ("L15", "class A:\n    pass\n\n\ndef f(xs):\n    return [A for A in xs]"),
+    ("L15", "A = [[1], 2]"),
+    ("L15", "A = {'a': {}}"),
+    ("L15", "A = [1]\n\n\ndef f():\n    A.append(2)"),
+    ("L15", "A = {}\n\n\ndef f():\n    A['a'] = 1"),
+    ("L15", "A = {}\n\n\ndef f():\n    return A"),
+    ("L15", "A = [1]\n\n\ndef f():\n    return g(A)"),
     ("L17", "# a type of thing"),
     ("L17", "def f(x):\n    return open"),
     ("L18", "class A:\n    def f(self):\n        pass\n    def f(self):\n        pass"),
@@ -82,6 +104,7 @@ BROKEN = (
     ("L24", "def f(xs):\n    for x in set(xs):\n        g(x)"),
     ("L24", "def f():\n    return {1, 2}"),
     ("L26", "def f(a):\n    a.items = 1"),
+    ("L28", "class A:\n    def __init__(self):\n        return None"),
     ("L27", "def f(n):\n    return 2 ** n"),
     ("L27", "A = 'a % b'"),
 )
@@ -125,10 +148,14 @@ class LanguageTest(unittest.TestCase):
         self.assertEqual(package_faults({"balancehall.a": method, "balancehall.b": value}), [("L18", "told")])
         call = "def f(xs):\n    xs.sort()"
         self.assertEqual(package_faults({"balancehall.a": call}), [("L25", "sort")])
-        one = "from balancehall.b import g"
-        other = "from balancehall.a import f"
+        one = "from balancehall.b import g\n\n\ndef f():\n    return g()"
+        other = "from balancehall.a import f\n\n\ndef g():\n    return f()"
         round_about = [("L16", "balancehall.a"), ("L16", "balancehall.b")]
         self.assertEqual(package_faults({"balancehall.a": one, "balancehall.b": other}), round_about)
+        third = {"balancehall.a": "A = 1", "balancehall.b": "from balancehall.a import A"}
+        self.assertEqual(package_faults(third), [])
+        third["balancehall.c"] = "from balancehall.b import A"
+        self.assertEqual(package_faults(third), [("L16", "balancehall.c")])
 
 
 if __name__ == "__main__":

@@ -2,7 +2,8 @@
 
 import re
 
-from balancehall.formulas import Formula
+from balancehall.changes import Change
+from balancehall.formulas import Formula, read_formula
 from balancehall.parts import Atom
 
 SIGNS = [chr(code) for code in range(ord(" "), ord("~") + 1)]
@@ -138,6 +139,16 @@ class Places:
             self.assertEqual(self.told_place(text + self.tail), len(text) - 1, text)
         else:
             self.assertEqual(self.told_place(text), None if self.is_whole(text) else len(text), text)
+
+
+def made(lefts, rights):
+    """A change by hand, of pairs of a count and a formula's text."""
+    return Change([(count, read_formula(text)) for count, text in lefts],
+                  [(count, read_formula(text)) for count, text in rights])
+
+
+def pairs(terms):
+    return [(count, formula.shown()) for count, formula in terms]
 
 
 def outline(tree):
